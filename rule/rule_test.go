@@ -182,7 +182,7 @@ func goesUp(m api.Mode, neg, odd bool, half int) bool {
 	return half >= 0
 }
 
-// tinyTarget: below 2^emin, and not rounded to it where the step is that of the numbers just below it.
+// tiny: below 2^emin, and not rounded to it where the step is that of the numbers just below it.
 func (l layout) tiny(m api.Mode, t target) bool {
 	if t.cmp(small(1), l.emin()) >= 0 {
 		return false
