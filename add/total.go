@@ -4,7 +4,6 @@ import (
 	"abacus/api"
 	"abacus/jam"
 	"abacus/kind"
-	"abacus/round"
 	"abacus/wide"
 )
 
@@ -36,22 +35,10 @@ func raised(sig api.Wide) api.Wide {
 // below tells of a finite number whether its sign is 1; of the classes those come first.
 func below(p api.Parts) bool { return p.Class <= api.NegZero }
 
-// endless tells whether it is an infinity.
-func endless(p api.Parts) bool { return p.Class == api.NegInf || p.Class == api.PosInf }
-
 // magnitude is an encoding without its sign.
 func magnitude(f api.Form, b api.Bits) api.Wide {
 	if kind.Sign(f, b) {
 		b = kind.Flip(f, b)
 	}
 	return wide.OfBits(b)
-}
-
-// nan is the canonical NaN: the infinity's ones, and one more right below them, which are the same ones one place lower.
-func nan(f api.Form) api.Bits {
-	inf, _, _ := round.Over(f, api.NearEven, false)
-	ones := wide.OfBits(inf)
-	lower, _ := wide.Right(ones, 1)
-	b, _ := wide.ToBits(wide.Or(ones, lower))
-	return b
 }

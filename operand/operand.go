@@ -1,0 +1,42 @@
+// Package operand is what the layers that calculate have in common: what may be handed in to them, what an operand is, and what they answer where nothing is calculated. It keeps to what all of these layers may call.
+package operand
+
+import (
+	"abacus/api"
+	"abacus/kind"
+	"abacus/round"
+	"abacus/wide"
+)
+
+// MayBe tells whether f is a format, m a mode, and all of l are encodings. A zero is rounded to itself: so that fails by the format or the mode alone.
+func MayBe(f api.Form, m api.Mode, l ...api.Bits) bool {
+	if _, _, e := round.Pack(f, m, api.Rough{}); e != api.OK {
+		return false
+	}
+	for _, b := range l {
+		if _, e := kind.Class(f, b); e != api.OK {
+			return false
+		}
+	}
+	return true
+}
+
+// Endless tells whether it is the class of an infinity.
+func Endless(c api.Class) bool { return c == api.NegInf || c == api.PosInf }
+
+// Naught tells whether it is the class of a zero.
+func Naught(c api.Class) bool { return c == api.NegZero || c == api.PosZero }
+
+// Inf is the infinity of a sign: what is beyond a format's numbers by a mode that goes to the nearer one.
+func Inf(f api.Form, neg bool) api.Bits {
+	b, _, _ := round.Over(f, api.NearEven, neg)
+	return b
+}
+
+// NaN is the canonical NaN: the infinity's ones, and one more right below them, which are the same ones one place lower.
+func NaN(f api.Form) api.Bits {
+	ones := wide.OfBits(Inf(f, false))
+	lower, _ := wide.Right(ones, 1)
+	b, _ := wide.ToBits(wide.Or(ones, lower))
+	return b
+}
