@@ -8,6 +8,9 @@ import (
 	"abacus/wide"
 )
 
+// Enough is how many bits a result must have for all formats, if something is left of it: the longest precision's, 113, and two.
+const Enough = 115
+
 // MayBe tells whether f is a format, m a mode, and all of l are encodings. A zero is rounded to itself: so that fails by the format or the mode alone.
 func MayBe(f api.Form, m api.Mode, l ...api.Bits) bool {
 	if _, _, e := round.Pack(f, m, api.Rough{}); e != api.OK {
