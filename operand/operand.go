@@ -30,6 +30,19 @@ func Endless(c api.Class) bool { return c == api.NegInf || c == api.PosInf }
 // Naught tells whether it is the class of a zero.
 func Naught(c api.Class) bool { return c == api.NegZero || c == api.PosZero }
 
+// Plain is the class that stands for all those that differ in the sign or in being subnormal alone: PosInf, PosZero or PosNormal; of a NaN its own.
+func Plain(c api.Class) api.Class {
+	switch {
+	case Endless(c):
+		return api.PosInf
+	case Naught(c):
+		return api.PosZero
+	case c == api.Signaling || c == api.Quiet:
+		return c
+	}
+	return api.PosNormal
+}
+
 // Inf is the infinity of a sign: what is beyond a format's numbers by a mode that goes to the nearer one.
 func Inf(f api.Form, neg bool) api.Bits {
 	b, _, _ := round.Over(f, api.NearEven, neg)

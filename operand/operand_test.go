@@ -45,6 +45,17 @@ func TestClasses(t *testing.T) {
 	}
 }
 
+func TestPlain(t *testing.T) {
+	for c, want := range map[api.Class]api.Class{
+		api.NegInf: api.PosInf, api.PosInf: api.PosInf, api.NegZero: api.PosZero, api.PosZero: api.PosZero, api.Signaling: api.Signaling, api.Quiet: api.Quiet,
+		api.NegNormal: api.PosNormal, api.NegSub: api.PosNormal, api.PosSub: api.PosNormal, api.PosNormal: api.PosNormal,
+	} {
+		if got := Plain(c); got != want {
+			t.Errorf("Plain(%d): %d; wanted %d", c, got, want)
+		}
+	}
+}
+
 // All formats and modes, with and without a list.
 func TestMayBe(t *testing.T) {
 	for f := range 256 {
