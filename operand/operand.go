@@ -5,7 +5,6 @@ import (
 	"abacus/api"
 	"abacus/kind"
 	"abacus/round"
-	"abacus/wide"
 )
 
 // Enough is how many bits a result must have for all formats, if something is left of it: the longest precision's, 113, and two.
@@ -49,10 +48,11 @@ func Inf(f api.Form, neg bool) api.Bits {
 	return b
 }
 
-// NaN is the canonical NaN: the infinity's ones, and one more right below them, which are the same ones one place lower.
+// NaN is the canonical NaN: the least NaN above the infinity, made quiet, without the lowest bit that made it one.
 func NaN(f api.Form) api.Bits {
-	ones := wide.OfBits(Inf(f, false))
-	lower, _ := wide.Right(ones, 1)
-	b, _ := wide.ToBits(wide.Or(ones, lower))
+	b := Inf(f, false)
+	b.Lo |= 1
+	b = kind.Quiet(f, b)
+	b.Lo &^= 1
 	return b
 }
